@@ -1,0 +1,1 @@
+"""Tensorworks: a compiler for tensor programs whose generated code is checked."""

@@ -1,0 +1,67 @@
+"""The interface: each name exists, in the file under which it is listed, with the arguments that are listed."""
+
+import inspect
+import unittest
+from importlib import import_module
+
+FUNCTIONS = {
+    "ratios": ("fraction(numerator, denominator)", "plus(a, b)", "minus(a, b)", "times(a, b)", "over(a, b)",
+               "compare(a, b)", "magnitude(a)", "whole(a)", "nearest(a)", "write_fraction(a)", "read_fraction(text)"),
+    "shapes": ("check_shape(shape)", "count_of(shape)", "letters_of(shape)", "broadcast(first, second)",
+               "offset(shape, at)", "indexes(shape, position)"),
+    "kinds": ("pointwise(kind, values, info)",),
+    "domains": ("domain_of(node, domains)",),
+    "graphs": ("check_graph(graph)", "inputs_of(graph)", "work_of(graph)"),
+    "notation": ("write_graph(graph)", "read_graph(text)"),
+    "meaning": ("evaluate(graph, feeds)", "evaluate_all(graph, feeds)"),
+    "tangents": ("tangent_graph(graph, low, high)",),
+    "gradients": ("gradient_graph(graph, low, high)",),
+    "rules": ("apply_rule(graph, rule, node)",),
+    "rewriting": ("sites(graph, rule)", "replay(graph, steps)"),
+    "tidying": ("prune(graph)", "fold_constants(graph)", "share(graph)"),
+    "optimizing": ("cost_of(graph)", "optimize(graph, fuel)"),
+    "graph_terms": ("graph_terms(table, graph)",),
+}
+METHODS = (
+    "__init__(self)", "__len__(self)", "number(self, n)", "variable(self, key, low, high)", "make(self, kind, ids, info)",
+    "pick(self, ids, index)", "span(self, id_of_term)", "value(self, id_of_term, values)",
+)
+CONSTANTS = {
+    "shapes": {"RANK_LIMIT": 4, "SIZE_LIMIT": 16, "COUNT_LIMIT": 256},
+    "kinds": {"NODE_LIMIT": 400, "WORK_LIMIT": 50000, "WIDTH_LIMIT": 200},
+    "terms": {"VALUE_LIMIT": 20000},
+}
+
+
+class Interface(unittest.TestCase):
+    def test_functions(self):
+        for stem, heads in FUNCTIONS.items():
+            module = import_module("tensorworks." + stem)
+            for head in heads:
+                name = head.partition("(")[0]
+                function = getattr(module, name)
+                self.assertEqual(function.__module__, module.__name__)
+                self.assertEqual(name + str(inspect.signature(function)), head)
+
+    def test_terms(self):
+        module = import_module("tensorworks.terms")
+        self.assertEqual(module.Terms.__module__, "tensorworks.terms")
+        for head in METHODS:
+            name = head.partition("(")[0]
+            self.assertEqual(name + str(inspect.signature(vars(module.Terms)[name])), head)
+
+    def test_constants(self):
+        for stem, values in CONSTANTS.items():
+            module = import_module("tensorworks." + stem)
+            for name, value in values.items():
+                self.assertEqual(getattr(module, name), value)
+        self.assertEqual(len(import_module("tensorworks.kinds").KINDS), 25)
+        self.assertEqual(len(import_module("tensorworks.rules").RULES), 30)
+
+    def test_arguments_stay_as_they_are(self):
+        """Tuples cannot change; the dict of values is the only other argument."""
+        terms = import_module("tensorworks.terms")
+        table = terms.Terms()
+        values = {(0,): 3, (1,): 4}
+        table.value(table.make("mul", (table.variable((0,), 0, 9), table.variable((1,), 0, 9)), ()), values)
+        self.assertEqual(values, {(0,): 3, (1,): 4})
