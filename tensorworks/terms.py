@@ -109,17 +109,28 @@ class Terms:
             raise FormError("the index may leave the list")
         if low == high:
             return ids[low]
-        number, units, factors, _ = self._as_sum(index)
-        divisor = common_divisor(factors)
-        first, last = sorted([(low - number) // divisor, (high - number) // divisor])
+        number, divisor, first, last = self.lane(index)
         choices = tuple([ids[number + divisor * v] for v in range(first, last + 1)])
         if choices.count(choices[0]) == len(choices):
             return choices[0]
-        place = self._sum((-first, units, tuple([factor // divisor for factor in factors]), (0, last - first)))
+        place = self.lane_index(index)
         span = self._spans[choices[0]]
         for choice in choices[1:]:
             span = hull(span, self._spans[choice])
         return self._known(("pick", choices, place), span)
+
+    def lane(self, id_of_term):
+        """Take a term that is no number as c + g V, and return c, g and the ends of the interval of V."""
+        number, _, factors, (low, high) = self._as_sum(id_of_term)
+        divisor = common_divisor(factors)
+        first, last = sorted([(low - number) // divisor, (high - number) // divisor])
+        return (number, divisor, first, last)
+
+    def lane_index(self, id_of_term):
+        """Return the id of V less its low end, where a term is c + g V."""
+        _, units, factors, _ = self._as_sum(id_of_term)
+        _, divisor, first, last = self.lane(id_of_term)
+        return self._sum((-first, units, tuple([factor // divisor for factor in factors]), (0, last - first)))
 
     def span(self, id_of_term):
         """Return the interval of a term."""
@@ -169,9 +180,12 @@ class Terms:
         """Return the sum of two sums."""
         if len(total[1]) < len(other[1]):
             total, other = other, total
-        added = dict(zip(total[1], total[2]))
         low = total[3][0] + other[3][0]
         high = total[3][1] + other[3][1]
+        if not other[1] or total[1][-1] < other[1][0]:
+            # A long sum often grows by a unit that is newer than all of its own.
+            return (total[0] + other[0], total[1] + other[1], total[2] + other[2], (low, high))
+        added = dict(zip(total[1], total[2]))
         for unit, factor in zip(other[1], other[2]):
             before = added.get(unit, 0)
             added[unit] = before + factor

@@ -12,7 +12,8 @@ TREES = {path.stem: ast.parse(path.read_text(encoding="utf-8")) for path in FILE
 CALLED = set(
     "len range enumerate zip min max sum abs sorted reversed int str bool list tuple dict set isinstance ord repr "
     "any all divmod".split())
-NAMED = CALLED | set("ValueError None True False __name__".split())
+KEYWORDS = {"sorted": {"key", "reverse"}, "min": {"key", "default"}, "max": {"key", "default"}}
+NAMED = CALLED | set("ValueError None True False __name__ property".split())
 METHODS = set(
     "append clear copy count endswith extend find get index insert isalnum isalpha isdigit islower isspace isupper "
     "items join keys ljust lower lstrip partition pop remove replace reverse rfind rjust rpartition rsplit rstrip "
@@ -21,15 +22,15 @@ BARRED = set("mro elements open input law version_info with_traceback add_note r
 NOT_NAMES = set(
     "attrgetter breakpoint builtins compile copyright credits delattr dir eval exec exit gc getattr globals hasattr "
     "help id importlib license locals methodcaller os quit setattr super type vars sys".split())
-LIBRARY = {"math": {"gcd"}}
+LIBRARY = {"math": {"gcd"}, "itertools": {"permutations"}}
 STATEMENTS = (
     ast.Assign, ast.AugAssign, ast.If, ast.While, ast.For, ast.Return, ast.Break, ast.Continue, ast.Pass, ast.Raise,
-    ast.Try, ast.Expr, ast.FunctionDef, ast.ClassDef, ast.ImportFrom,
+    ast.Try, ast.Expr, ast.FunctionDef, ast.ClassDef, ast.ImportFrom, ast.Delete,
 )
 EXPRESSIONS = (
     ast.Constant, ast.Name, ast.Attribute, ast.Subscript, ast.Slice, ast.Call, ast.BinOp, ast.UnaryOp, ast.BoolOp,
     ast.Compare, ast.IfExp, ast.Tuple, ast.List, ast.Dict, ast.ListComp, ast.DictComp, ast.JoinedStr,
-    ast.FormattedValue, ast.Starred,
+    ast.FormattedValue, ast.Starred, ast.Lambda,
 )
 
 
@@ -44,6 +45,8 @@ def bound_names(tree):
             yield node.name
         elif isinstance(node, ast.Attribute) and isinstance(node.ctx, ast.Store):
             yield node.attr
+        elif isinstance(node, ast.ExceptHandler) and node.name:
+            yield node.name
 
 
 def local_names(function):
@@ -78,7 +81,7 @@ class Files(unittest.TestCase):
         for name, tree in TREES.items():
             for function in functions_of(tree):
                 self.assertLessEqual(function.end_lineno - function.lineno + 1, 40, (name, function.name))
-                self.assertFalse(function.decorator_list)
+                self.assertTrue(all(decorator.id == "property" for decorator in function.decorator_list))
 
 
 class Imports(unittest.TestCase):
@@ -199,7 +202,8 @@ class Code(unittest.TestCase):
             for node in ast.walk(tree):
                 if isinstance(node, ast.Call):
                     self.assertIsInstance(node.func, (ast.Name, ast.Attribute), (stem, node.lineno))
-                    self.assertFalse(node.keywords, (stem, node.lineno))
+                    allowed = KEYWORDS.get(getattr(node.func, "id", None), set())
+                    self.assertLessEqual({word.arg for word in node.keywords}, allowed, (stem, node.lineno))
                     if isinstance(node.func, ast.Attribute):
                         self.assertIn(node.func.attr, methods, (stem, node.lineno))
 
@@ -207,7 +211,7 @@ class Code(unittest.TestCase):
         for stem, tree in TREES.items():
             for node in ast.walk(tree):
                 if isinstance(node, ast.ExceptHandler):
-                    self.assertIn(node.type.id, ("TensorError", "RuleError"), (stem, node.lineno))
+                    self.assertIn(node.type.id, ("TensorError", "RuleError", "AuditError"), (stem, node.lineno))
 
     def test_module_level(self):
         for stem, tree in TREES.items():
