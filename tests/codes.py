@@ -34,7 +34,7 @@ class Maker:
         if self.chance.random() < 0.5:
             slot = self.chance.choice([0, 1, 4, 9])
             return [("loop", slot, self.chance.randint(0, 2), self.chance.choice([-1, 0, 1]), self.chance.randint(1, 3))] + inside + [("end",)]
-        return [("skip", self.chance.choice([0, 4] if not self.bold else [0, 8, 9]), len(inside))] + inside
+        return [("skip", self.chance.choice([0, 4] if not self.bold else [0, 4, 8, 9]), len(inside))] + inside
 
     def place(self, words, count=1):
         """Return an address slot and an offset for so many words."""
@@ -53,7 +53,8 @@ class Maker:
             a, n = self.place(near)
             return ("load", self.work(), a if chance.random() < 0.9 else self.work(), n)
         if name == "store":
-            return ("store",) + self.place(near) + (self.work(),)
+            a, n = self.place(near)
+            return ("store", a if chance.random() < 0.95 else self.work(), n, self.work())
         if name == "set":
             return ("set", chance.choice([0, 4, 9]), chance.randint(-1, 3))
         if name == "wait":

@@ -21,15 +21,38 @@ FUNCTIONS = {
     "tidying": ("prune(graph)", "fold_constants(graph)", "share(graph)"),
     "optimizing": ("cost_of(graph)", "optimize(graph, fuel)"),
     "graph_terms": ("graph_terms(table, graph)",),
+    "loops": ("check_program(program)",),
+    "running": ("run_program(program, given)",),
+    "agreeing": ("program_terms(table, program, given)", "agree(first, second)"),
+    "lowering": ("lower(graph, kept)",),
+    "changes": ("apply_change(program, change)",),
+    "lives": ("lives(program, outs)", "meet(one, other)"),
+    "placing": ("check_places(all_lives, sizes, places)", "peak_of(all_lives, sizes)", "choose_places(all_lives, sizes)"),
+    "machines": ("check_machine(machine)", "fits(machine, n)"),
+    "instructions": ("check_code(machine, code)",),
+    "listing": ("write_code(machine, code)", "read_code(machine, text)"),
+    "device": ("run_code(machine, code, main, near, delays)",),
+    "auditing": ("audit_code(table, machine, code, main)",),
+    "generating": ("generate(machine, program, layout, spare)",),
+    "building": ("build(graph, schedule, machine)",),
+    "certifying": ("certify(graph, machine, code, inputs, constants, outputs)",),
+    "images": ("load_image(image, feeds, filler)", "unload_image(image, main)", "run_image(image, feeds, filler, delays)"),
 }
 METHODS = (
     "__init__(self)", "__len__(self)", "number(self, n)", "variable(self, key, low, high)", "make(self, kind, ids, info)",
     "pick(self, ids, index)", "span(self, id_of_term)", "value(self, id_of_term, values)",
 )
+DEVICE = (
+    "__init__(self, machine, code, main, near, delays)", "step(self)", "slot(self, k)", "main_word(self, k)",
+    "near_word(self, k)", "pending(self, q)",
+)
+IMAGE = ("graph", "program", "machine", "code", "inputs", "constants", "outputs", "words")
 CONSTANTS = {
     "shapes": {"RANK_LIMIT": 4, "SIZE_LIMIT": 16, "COUNT_LIMIT": 256},
     "kinds": {"NODE_LIMIT": 400, "WORK_LIMIT": 50000, "WIDTH_LIMIT": 200},
     "terms": {"VALUE_LIMIT": 20000},
+    "changes": {"CHANGES": ("tile", "swap", "unroll", "reverse", "split", "fuse", "stage")},
+    "generating": {"SPARE": 20},
 }
 
 
@@ -43,12 +66,29 @@ class Interface(unittest.TestCase):
                 self.assertEqual(function.__module__, module.__name__)
                 self.assertEqual(name + str(inspect.signature(function)), head)
 
+    def check_class(self, found, home, heads):
+        self.assertEqual(found.__module__, home)
+        for head in heads:
+            name = head.partition("(")[0]
+            self.assertEqual(name + str(inspect.signature(vars(found)[name])), head)
+
     def test_terms(self):
         module = import_module("tensorworks.terms")
-        self.assertEqual(module.Terms.__module__, "tensorworks.terms")
-        for head in METHODS:
-            name = head.partition("(")[0]
-            self.assertEqual(name + str(inspect.signature(vars(module.Terms)[name])), head)
+        self.check_class(module.Terms, "tensorworks.terms", METHODS)
+
+    def test_device(self):
+        module = import_module("tensorworks.device")
+        self.check_class(module.Device, "tensorworks.device", DEVICE)
+        for name in ("at", "stopped"):
+            self.assertIsInstance(vars(module.Device)[name], property)
+
+    def test_image(self):
+        module = import_module("tensorworks.building")
+        self.assertEqual(module.Image.__module__, "tensorworks.building")
+        graph = ((("input", (), ((), 0, 9)),), (0,))
+        image = module.build(graph, ((), (), (), ()), (32, 1, 20, 1, 1))
+        for name in IMAGE:
+            self.assertTrue(hasattr(image, name), name)
 
     def test_constants(self):
         for stem, values in CONSTANTS.items():
