@@ -115,7 +115,7 @@ def changed_body(program, body, path, change):
 
 def changed_program(program, change):
     """Return the program that a change makes of a valid one, without asking whether the two agree."""
-    need(change[0] in CHANGES and len(change) == ITEMS[change[0]])
+    need(change and len(change) == ITEMS.get(change[0]))
     buffers, body = program
     made = changed_body(program, body, change[1], change)
     if change[0] == "stage":

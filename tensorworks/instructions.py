@@ -14,7 +14,6 @@ CODE_LIMIT = 4000000
 LOOP_LIMIT = 16
 STEP_LIMIT = 1000000000
 
-TRANSFER = ("queue", "slot", "offset", "slot", "offset", "words")
 ITEMS = {
     "set": ("slot", "word"),
     "do": ("kind", "slot", "sources", "info"),
@@ -25,8 +24,8 @@ ITEMS = {
     "loop": ("slot", "number", "number", "turns"),
     "end": (),
     "skip": ("slot", "skipped"),
-    "in": TRANSFER,
-    "out": TRANSFER,
+    "in": ("queue", "slot", "offset", "slot", "offset", "words"),
+    "out": ("queue", "slot", "offset", "slot", "offset", "words"),
     "wait": ("queue",),
 }
 TUPLES = ("sources", "info")
@@ -35,29 +34,39 @@ TUPLES = ("sources", "info")
 # The look for errors of form.
 
 
-def is_of_kind(item, field):
-    """Tell whether a field is what an item of an instruction can be."""
+def rows_by_name(code):
+    """Return a dict from names to lists of the different instructions with this name."""
+    # Code can be very long, so each instruction that it repeats is looked at once, and then field by field.
+    rows = {}
+    for instruction in {one: True for one in code}:
+        if not isinstance(instruction, tuple) or not instruction or instruction[0] not in ITEMS:
+            raise FormError("no such instruction")
+        rows.setdefault(instruction[0], []).append(instruction)
+    return rows
+
+
+def are_of_item(item, fields):
+    """Tell whether fields are what an item of an instruction can be."""
     if item == "kind":
-        return field in POINTWISE
+        return all([field in POINTWISE for field in fields])
     if item in TUPLES:
-        return isinstance(field, tuple) and all([isinstance(n, int) for n in field])
-    return isinstance(field, int)
+        return all([isinstance(field, tuple) and all([isinstance(n, int) for n in field]) for field in fields])
+    return all([isinstance(field, int) for field in fields])
 
 
-def form_of_instruction(instruction):
-    """Raise the error of form of an instruction."""
-    if not isinstance(instruction, tuple) or not instruction or instruction[0] not in ITEMS:
-        raise FormError("no such instruction")
-    items = ITEMS[instruction[0]]
-    if len(instruction) != len(items) + 1:
+def form_of_rows(name, rows):
+    """Raise the error of form of instructions with a name."""
+    items = ITEMS[name]
+    if any([len(row) != len(items) + 1 for row in rows]):
         raise FormError("wrong number of fields")
-    if not all([is_of_kind(item, field) for item, field in zip(items, instruction[1:])]):
-        raise FormError("a field is of a wrong kind")
-    if instruction[0] == "do":
-        _, kind, _, sources, info = instruction
-        if len(sources) != ARITIES[kind] or len(info) != len(FIELDS[kind]):
-            raise FormError("wrong number of sources or fields")
-    if instruction[0] == "vector" and ARITIES[instruction[1]] != 2:
+    for at, item in enumerate(items):
+        if not are_of_item(item, [row[at + 1] for row in rows]):
+            raise FormError("a field is of a wrong kind")
+    if name == "do":
+        for _, kind, _, sources, info in rows:
+            if len(sources) != ARITIES[kind] or len(info) != len(FIELDS[kind]):
+                raise FormError("wrong number of sources or fields")
+    if name == "vector" and any([ARITIES[row[1]] != 2 for row in rows]):
         raise FormError("the kind does not have two args")
 
 
@@ -101,29 +110,26 @@ def ranges_of(machine):
     }
 
 
-def range_of(n, ends):
-    """Raise the error of a number that is out of its range."""
-    if not ends[0] <= n <= ends[1]:
+def range_of(numbers, ends):
+    """Raise the error of numbers of which one is out of its range."""
+    if min(numbers) < ends[0] or max(numbers) > ends[1]:
         raise RangeError("a number is out of its range")
 
 
-def range_of_instruction(ranges, instruction):
-    """Raise the error of an instruction with a number out of its range."""
-    for item, field in zip(ITEMS[instruction[0]], instruction[1:]):
+def range_of_rows(ranges, name, rows):
+    """Raise the error of instructions with a name of which one has a number out of its range."""
+    for at, item in enumerate(ITEMS[name]):
         if item in ranges:
-            range_of(field, ranges[item])
-    if instruction[0] == "do":
-        _, kind, _, sources, info = instruction
-        for source in sources:
-            range_of(source, ranges["slot"])
-        check_fields(kind, info)
-        if kind == "clamp":
-            range_of(info[0], ranges["word"])
-            range_of(info[1], ranges["word"])
-    if instruction[0] == "loop":
-        _, _, start, step, count = instruction
-        range_of(start, ranges["word"])
-        range_of(start + step * (count - 1), ranges["word"])
+            range_of([row[at + 1] for row in rows], ranges[item])
+    if name == "do":
+        for _, kind, _, sources, info in rows:
+            range_of(sources, ranges["slot"])
+            check_fields(kind, info)
+            if kind == "clamp":
+                range_of(info, ranges["word"])
+    if name == "loop":
+        range_of([start for _, _, start, _, _ in rows], ranges["word"])
+        range_of([start + step * (count - 1) for _, _, start, step, count in rows], ranges["word"])
 
 
 # The look for sizes.
@@ -152,12 +158,11 @@ def look_at_sizes(code):
 def check_code(machine, code):
     """Raise the error of code that is not valid."""
     check_machine(machine)
-    # Long code repeats itself; each instruction is looked at once.
-    distinct = {instruction: True for instruction in code}
-    for instruction in distinct:
-        form_of_instruction(instruction)
+    rows = rows_by_name(code)
+    for name in rows:
+        form_of_rows(name, rows[name])
     form_of_skips(code, innermost_loops(code))
     ranges = ranges_of(machine)
-    for instruction in distinct:
-        range_of_instruction(ranges, instruction)
+    for name in rows:
+        range_of_rows(ranges, name, rows[name])
     look_at_sizes(code)

@@ -63,9 +63,9 @@ def form_of_buffer(buffers, index):
 
 def form_of_expr(buffers, expr, around):
     """Raise the error of form of an expression."""
-    name = expr[0]
-    if name not in EXPR_ITEMS or len(expr) != EXPR_ITEMS[name]:
+    if not expr or len(expr) != EXPR_ITEMS.get(expr[0]):
         raise FormError("no such expression")
+    name = expr[0]
     if name in ("load", "pick"):
         form_of_buffer(buffers, expr[1])
         form_of_affine(expr[2], around)
@@ -98,9 +98,9 @@ def form_of_copy(buffers, statement, around):
 
 def form_of_statement(buffers, statement, around):
     """Raise the error of form of a statement."""
-    name = statement[0]
-    if name not in STATEMENT_ITEMS or len(statement) != STATEMENT_ITEMS[name]:
+    if not statement or len(statement) != STATEMENT_ITEMS.get(statement[0]):
         raise FormError("no such statement")
+    name = statement[0]
     if name == "put":
         form_of_buffer(buffers, statement[1])
         if buffers[statement[1]][0] == "in":

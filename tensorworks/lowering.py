@@ -108,6 +108,7 @@ class Lowering:
         self.nodes = nodes
         self.shapes = shapes
         self.places = places
+        self.made = {}
 
     def word(self, at, forms):
         """Return the form of the position of the element of a node at the forms of its letters."""
@@ -125,7 +126,11 @@ class Lowering:
             at = self.nodes[at][1][0]
         if self.places[at] is not None:
             return ("load", self.places[at], self.word(at, forms))
-        return self.value(at, forms)
+        # One expression serves wherever it is the same, since it can stand in thousands of places.
+        key = (at, tuple([forms[letter] for letter, _ in self.shapes[at]]))
+        if key not in self.made:
+            self.made[key] = self.value(at, forms)
+        return self.made[key]
 
     def moved(self, at, forms):
         """Return the forms of the letters of the arg of a node that only moves elements."""
