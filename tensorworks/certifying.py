@@ -5,7 +5,7 @@ from tensorworks.errors import AuditError, PlaceError, TooWide
 from tensorworks.graph_terms import graph_terms
 from tensorworks.graphs import check_graph, input_places
 from tensorworks.instructions import check_code
-from tensorworks.machines import check_machine, word_range
+from tensorworks.machines import word_range
 from tensorworks.shapes import count_of
 from tensorworks.terms import Terms
 
@@ -47,7 +47,6 @@ def first_terms(table, machine, rows, terms, constants):
 def certify(graph, machine, code, inputs, constants, outputs):
     """Tell whether code computes a graph, the places of inputs, constants and outputs being given."""
     domains = check_graph(graph)
-    check_machine(machine)
     check_code(machine, code)
     sources = input_places(graph[0])
     if len(inputs) != len(sources) or len(outputs) != len(graph[1]):

@@ -109,6 +109,23 @@ class Errors(unittest.TestCase):
         self.assertIs(error(put(1, form(5), deep), low=0, high=1 << 157), TooWide)
 
 
+class Widest(unittest.TestCase):
+    """The greatest values of point 502, and one beyond them."""
+
+    def test_ends_of_intervals(self):
+        top = 1 << 20000
+        table = Terms()
+        wide, low, full = table.variable((0,), 0, top), table.variable((1,), -top, 0), table.variable((2,), -top, top)
+        for expr, expected in (
+                (load(0), None), (apply("neg", load(0)), None), (apply("neg", load(0, form(1))), None), (apply("neg", load(0, form(2))), None),
+                (apply("add", load(0), num(1)), TooWide), (apply("sub", load(0, form(1)), num(1)), TooWide),
+                (apply("add", load(0, form(1)), num(1)), None), (apply("add", load(0), load(0, form(1))), None),
+                (apply("sub", load(0), load(0, form(1))), TooWide), (apply("max", load(0), load(0, form(2))), None),
+                (apply("mul", load(0, form(2)), num(2)), TooWide), (apply("shift", load(0), info=(1,)), None)):
+            given = ((wide, low, full),)
+            self.assertIs(error_of(program_terms, table, (BUFFERS, (put(1, ZERO, expr),)), given), expected, expr)
+
+
 A = (("in", 2), ("main", 2))
 
 

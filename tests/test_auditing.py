@@ -83,6 +83,21 @@ class Results(unittest.TestCase):
         table = Terms()
         self.assertEqual(audit(("store", 9, 0, 31), *give(8, 0), table=table)[8], table.number(0))
 
+    def test_slots_that_are_set_again(self):
+        """A slot that held a term and then a number, or the other way round, holds what it was set to last."""
+        table = Terms()
+        free = memory(table)
+        code = fetch(0, 0, 2) + (("load", 2, 0, 0), ("store", 0, 4, 2), ("set", 2, 5), ("store", 0, 5, 2), ("load", 2, 0, 1),
+                                 ("store", 0, 6, 2), ("do", "sub", 2, (2, 2), ()), ("store", 0, 7, 2), ("loop", 2, 3, 1, 2), ("store", 0, 8, 2),
+                                 ("load", 2, 0, 0), ("end",), ("store", 0, 9, 2)) + give(8, 4, 6)
+        self.assertEqual(audit(*code, table=table)[8:14], (free[0], table.number(5), free[1], table.number(0), table.number(4), free[0]))
+
+    def test_more_queues_than_lanes(self):
+        table = Terms()
+        machine = (32, 16, 16, 4, 1)
+        code = (("in", 3, 0, 0, 0, 0, 2), ("wait", 3), ("out", 2, 0, 8, 0, 0, 2))
+        self.assertEqual(audit_code(table, machine, code, memory(table))[8:10], memory(table)[:2])
+
     def test_transfers_in_flight_at_the_end(self):
         table = Terms()
         self.assertEqual(audit(("set", 1, 3), ("store", 0, 0, 1), ("out", 0, 0, 8, 0, 0, 1), table=table)[8], table.number(3))
@@ -124,6 +139,14 @@ class Lanes(unittest.TestCase):
         for low, high, n, expected in (
                 (0, 3, 4, None), (-1, 3, 0, Outside), (0, 4, 12, Outside), (LOW, TOP, 4, Outside), (-1, 0, 0, Outside), (15, 16, 0, Outside)):
             self.assertIs(self.error(low, high, ("load", 9, 2, n)), expected)
+
+    def test_outside_with_factors(self):
+        """The first and the last word decide, whichever of both is the higher one."""
+        for factor, n, expected in (
+                (2, 4, None), (2, 9, NeverSet), (2, 10, Outside), (2, -1, Outside), (-2, 10, None), (-2, 6, NeverSet), (-2, 5, Outside),
+                (-2, 16, Outside), (4, 3, NeverSet), (4, 4, Outside)):
+            code = (("set", 3, factor), ("do", "mul", 3, (2, 3), ()), ("load", 9, 3, n))
+            self.assertIs(self.error(0, 3, *code), expected, (factor, n))
 
     def test_never_set(self):
         self.assertIs(self.error(0, 3, ("load", 9, 2, 8)), NeverSet)
@@ -194,8 +217,20 @@ class Errors(unittest.TestCase):
         code = fetch(0, 0, 2) + (("set", 1, 1), ("store", 0, 1, 1), ("set", 4, 4), ("vector", "mul", 4, 0, 0, 2))
         self.assertIs(error(*code, low=0, high=46341), MayOverflow)
 
+    def test_intervals_that_just_fit(self):
+        for kind in ("max", "min"):
+            self.assertIsNone(error(*FREE, ("do", kind, 9, (2, 3), ()), low=LOW, high=TOP))
+            self.assertIsNone(error(*FREE, ("set", 4, 4), ("vector", kind, 4, 0, 0, 1), low=LOW, high=TOP))
+        for n, low, high, expected in (
+                (1, 0, TOP - 1, None), (1, 0, TOP, MayOverflow), (-1, LOW + 1, 0, None), (-1, LOW, 0, MayOverflow)):
+            self.assertIs(error(*FREE, ("set", 3, n), ("do", "add", 9, (2, 3), ()), low=low, high=high), expected)
+
     def test_may_overflow_of_numbers(self):
-        code = (("set", 1, TOP), ("set", 2, LOW))
+        code = (("set", 1, TOP), ("set", 2, LOW), ("set", 5, 1), ("set", 6, -1))
+        for kind, sources, expected in (
+                ("sub", (1, 5), None), ("sub", (1, 6), MayOverflow), ("sub", (2, 5), MayOverflow), ("sub", (2, 6), None), ("max", (1, 2), None),
+                ("min", (1, 2), None), ("sub", (6, 1), None), ("sub", (6, 2), None)):
+            self.assertIs(error(*code, ("do", kind, 3, sources, ())), expected)
         for kind, sources, expected in (
                 ("add", (1, 1), MayOverflow), ("neg", (2,), MayOverflow), ("mul", (1, 2), MayOverflow), ("add", (1, 2), None)):
             self.assertIs(error(*code, ("do", kind, 3, sources, ())), expected)
@@ -255,6 +290,13 @@ class Flight(unittest.TestCase):
         self.assertIs(error(*self.START, *both, ("wait", 0), store), Racing)
         self.assertIs(error(*self.START, *both, ("wait", 1), store), Racing)
         self.assertIsNone(error(*self.START, *both, ("wait", 1), ("wait", 0), store))
+
+    def test_sources_of_several_lengths(self):
+        both = (("out", 0, 0, 8, 0, 4, 1), ("out", 1, 0, 9, 0, 4, 2))
+        for first, second in ((0, 1), (1, 0)):
+            self.assertIs(error(*self.START, *both, ("store", 0, 4, 1)), Racing)
+            self.assertIs(error(*self.START, *both, ("wait", first), ("store", 0, 4, 1)), Racing)
+            self.assertIsNone(error(*self.START, *both, ("wait", first), ("wait", second), ("store", 0, 4, 1)))
 
     def test_one_queue(self):
         """Two transfers in the same queue are in flight together, although they are carried out in order."""

@@ -4,9 +4,11 @@ import unittest
 
 from tensorworks.auditing import audit_code
 from tensorworks.building import Image, build
+from tensorworks.device import Device
 from tensorworks.errors import (
     ChangeError, FormError, KeptError, KindError, MachineError, NoRoom, PlaceError, RuleError, TooLarge, TooWide)
 from tensorworks.graph_terms import graph_terms
+from tensorworks.images import load_image
 from tensorworks.instructions import check_code
 from tensorworks.lowering import lower
 from tensorworks.terms import Terms
@@ -70,6 +72,17 @@ class Attributes(unittest.TestCase):
         self.assertEqual(image.program[0], (("in", 3), ("in", 3), ("main", 3), ("main", 1), ("main", 1), ("near", 1)))
         self.assertEqual(image.program[1][0][1:5], (1, 0, 1, 2))
         self.assertEqual(image.program[1][2][2:4], (2, -1))
+
+    def test_near_buffers(self):
+        """They stand one behind the other from the word 0 on; whatever is behind the spare words stays as it is."""
+        machine = (64, 32, 50, 1, 1)
+        changes = (("stage", (0,), 1, ZERO, 3, "in"), ("stage", (0,), 0, ZERO, 3, "in"))
+        image = build(SUM, ((), KEPT, changes, PLACES), machine)
+        device = Device(machine, image.code, load_image(image, ((1, -2, 3),), (0,)), (99,) * 50, ())
+        while device.step():
+            pass
+        self.assertEqual([device.near_word(k) for k in range(6)], [5, 6, 7, 1, -2, 3])
+        self.assertEqual([device.near_word(k) for k in range(26, 50)], [99] * 24)
 
     def test_no_nodes_to_store(self):
         image = build(graph_of([scalar(0, 9), const("k2", 3, 4)], 1, 0), ((), (), (), ()), MACHINE)
@@ -146,6 +159,8 @@ class Errors(unittest.TestCase):
             self.assertIs(error(graph, kept=(1, 2), places=(0, 1), machine=(32,) + MACHINE[1:]), expected)
             nested = graph_of([scalar(0, 1), ("clamp", (0,), info), ("neg", (1,), ())])
             self.assertIs(error(nested, kept=(2,), places=(0,), machine=(32,) + MACHINE[1:]), expected)
+            looped = graph_of([tensor("i2k2", 0, 1), ("clamp", (0,), info), ("neg", (1,), ())])
+            self.assertIs(error(looped, kept=(2,), places=(0,), machine=(32,) + MACHINE[1:]), expected)
             unused = graph_of([scalar(0, 1), ("clamp", (0,), info), ("neg", (0,), ())])
             self.assertIsNone(error(unused, kept=(2,), places=(0,), machine=(32,) + MACHINE[1:]))
 

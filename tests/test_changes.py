@@ -246,6 +246,29 @@ class Stage(unittest.TestCase):
             self.assertIs(error(LOOP, "stage", (0,), 0, where, count, "in"), ChangeError)
 
 
+class Behind(unittest.TestCase):
+    """The statements around the loop stay as they are."""
+
+    def test_each_change(self):
+        body = (loop(0, 0, 1, 4, square(var(0)), put(1, var(0, 1, 4), num(1))),)
+        nest = (loop(0, 0, 1, 2, loop(1, 0, 1, 4, square(form(0, (0, 4), (1, 1))))),)
+        twin = (loop(0, 0, 1, 4, square(var(0))), loop(1, 0, 1, 4, put(1, var(1, 1, 4), num(1))))
+        before, after = put(1, form(7), num(3)), loop(0, 0, 1, 4, put(1, var(0), num(7)))
+        for first, change in (
+                (body, ("tile", 2)), (nest, ("swap",)), (body, ("unroll",)), (body, ("reverse",)), (body, ("split", 1)), (twin, ("fuse",)),
+                (body, ("stage", 0, ZERO, 4, "in"))):
+            alone = apply_change((BUFFERS, first), (change[0], (0,)) + change[1:])[1]
+            made = apply_change((BUFFERS, (before,) + first + (after,)), (change[0], (1,)) + change[1:])[1]
+            self.assertEqual(made, (before,) + alone + (after,), change)
+            inside = apply_change((BUFFERS, (when(ZERO, before, *first, after), after)), (change[0], (0, 1)) + change[1:])[1]
+            self.assertEqual(inside, (when(ZERO, before, *alone, after), after))
+
+    def test_modes(self):
+        body = (loop(0, 0, 1, 8, put(1, var(0), num(0))), loop(0, 0, 1, 8, put(1, var(0), apply("add", load(1, var(0)), num(1)))))
+        for mode, expected in (("both", None), ("", ChangeError), ("inout", ChangeError), ("Both", ChangeError), ("near", ChangeError)):
+            self.assertIs(error(body, "stage", (1,), 1, ZERO, 8, mode), expected)
+
+
 class Paths(unittest.TestCase):
     BODY = (square(ZERO), when(ZERO, square(ZERO), loop(0, 0, 1, 2, square(var(0)), when(ZERO, square(ZERO)))))
 

@@ -183,7 +183,8 @@ class Traps(unittest.TestCase):
                     self.assertIs(trap(("set", 1, 5), instruction(place)), expected, instruction(place))
 
     def test_mac(self):
-        for a, s, count, expected in ((0, 5, 4, False), (1, 5, 4, True), (15, -5, 4, False), (14, -5, 4, True), (16, 0, 1, True), (-1, 1, 4, True)):
+        for a, s, count, expected in ((0, 5, 4, False), (1, 5, 4, True), (15, -5, 4, False), (14, -5, 4, True), (16, 0, 1, True), (-1, 1, 4, True),
+                                      (16, -1, 2, True), (20, -5, 4, True), (-1, 5, 2, True), (-5, 5, 4, True)):
             self.assertIs(trap(("set", 1, a), ("mac", 3, 1, s, 0, 0, count)), expected)
             self.assertIs(trap(("set", 1, a), ("mac", 3, 0, 0, 1, s, count)), expected)
 
@@ -200,6 +201,20 @@ class Traps(unittest.TestCase):
                 ("add", (0, 2), True), ("add", (1, 3), True), ("add", (0, 3), False), ("sub", (1, 2), True), ("sub", (1, 3), False),
                 ("neg", (1,), True), ("neg", (0,), False), ("mul", (0, 0), True), ("mul", (1, 3), True), ("max", (0, 1), False)):
             self.assertIs(trap(*load, ("do", kind, 9, sources, ()), near=near), expected, (kind, sources))
+
+    def test_results_that_just_fit(self):
+        near = (TOP, LOW, 1, -1, 0, TOP - 1, LOW + 1) + (0,) * 9
+        load = tuple(("load", k, 0, k) for k in range(1, 7)) + (("load", 0, 0, 0),)
+        for kind, sources in (("add", (5, 2)), ("add", (6, 3)), ("sub", (6, 2)), ("sub", (5, 3)), ("max", (0, 1)), ("min", (0, 1))):
+            made = ended(*load, ("do", kind, 9, sources, ()), near=near)
+            self.assertIn(made.slot(9), (TOP, LOW))
+        for at, n in ((5, 1), (6, -1)):
+            made = ended(("set", 1, at), ("load", 3, 1, 0), ("set", 2, 2 if n > 0 else 3), ("set", 4, 2), ("mac", 3, 2, 0, 4, 0, 1), near=near)
+            self.assertEqual((made.slot(3), made.stopped), (TOP if n > 0 else LOW, False))
+        for row, expected in (((TOP - 1, 1), False), ((TOP - 1, 2), True), ((LOW + 1, -1), False), ((LOW + 1, -2), True)):
+            words = row + (0,) * 14
+            self.assertIs(trap(("set", 1, 1), ("set", 2, 2), ("vector", "add", 2, 0, 1, 1), near=words), expected)
+            self.assertIs(trap(("set", 1, 1), ("set", 2, 8), ("vector", "add", 2, 0, 1, 4), near=words), expected)
 
     def test_results_of_mac(self):
         """Sums and products inside need not fit."""

@@ -30,6 +30,9 @@ PUT = put(1, ZERO, num(1))
 
 FORM_BODIES = {
     "statement": (("jump", 1),),
+    "empty statement": ((),),
+    "empty expression": (put(1, ZERO, ()),),
+    "empty expression inside": (put(1, ZERO, apply("neg", ())),),
     "statement with too few fields": (("put", 1, ZERO),),
     "statement with too many fields": (("when", ZERO, (PUT,), (PUT,)),),
     "expression": (put(1, ZERO, ("variable", 0)),),
@@ -78,6 +81,8 @@ FORM_BODIES = {
 }
 RANGE_BODIES = {
     "variable": (loop(-1, 0, 1, 2, PUT),),
+    "variable in a form": (loop(-1, 0, 1, 2, put(1, var(-1), num(1))),),
+    "variables in a form": (loop(-1, 0, 1, 2, loop(-2, 0, 1, 2, put(1, form(0, (-2, 1), (-1, 1)), num(1)))),),
     "count 0": (loop(0, 0, 1, 0, PUT),),
     "count 1001": (loop(0, 0, 0, 1001, PUT),),
     "first value": (loop(0, 1001, -1, 2, PUT),),
@@ -207,6 +212,23 @@ class Size(unittest.TestCase):
         fill = [copy(2, ZERO, 0, ZERO, 4096)] * (left // 4096) + [copy(2, ZERO, 0, ZERO, max(1, left % 4096))]
         self.assertIsNone(error(*body, *fill))
         self.assertIs(error(*body, *fill, copy(2, ZERO, 0, ZERO, 1)), TooLarge)
+
+    def test_statements_and_parts_of_all_kinds(self):
+        """Levels, parts and steps are counted each on its own."""
+        wide = num(1)
+        for _ in range(9):
+            wide = apply("add", wide, wide)
+        self.assertIsNone(error(*[put(1, ZERO, wide)] * 9))
+        self.assertIs(error(*[put(1, ZERO, wide)] * 10), TooLarge)
+        picks = [put(1, ZERO, pick(0, ZERO, 1, 16, num(1)))] * 5000
+        self.assertIsNone(error(*picks))
+        self.assertIs(error(*picks, PUT), TooLarge)
+        inner = [put(1, ZERO, apply("neg", pick(0, ZERO, 1, 16, num(1))))] * 3333
+        self.assertIsNone(error(*inner, PUT))
+        self.assertIs(error(*inner, PUT, PUT), TooLarge)
+        copies = [copy(2, ZERO, 0, ZERO, 1)] * 9999
+        self.assertIsNone(error(*[PUT] * 10000, *copies, copies[0]))
+        self.assertIs(error(*[PUT] * 10000, *copies, loop(0, 0, 1, 2, copies[0])), TooLarge)
 
     def test_loops_are_no_statements_around_only(self):
         body = nested(PUT, 8, "loop")

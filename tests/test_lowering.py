@@ -13,6 +13,12 @@ from tests.helpers import const, error_of, graph_of, random_feeds, random_graph,
 from tests.programs import ZERO, apply, form, guard, load, loop, num, pick, put, var
 
 NO_NODES = ((), ())
+# How many levels each kind stands above its args, and its fields where the first arg is i2k3.
+ABOVE = {
+    "sum": (1, ("k",)), "dot": (2, ("k",)), "peak": (1, ("k",)), "fold": (1, ("i", "k", 1, 4)),
+    "pad": (2, ("k", 1, 1)), "join": (1, ("k",)), "window": (0, ("k", "w", 2, 1)), "cut": (0, ("k", 0, 1)),
+    "order": (0, ("ki",)), "rename": (0, ("k", "r")), "spread": (0, ("r", 2)), "add": (1, ()),
+}
 
 
 def computed(graph):
@@ -200,8 +206,13 @@ class Errors(unittest.TestCase):
             self.assertIsNone(error_of(lower, graph, kept))
         for kept in (
                 (), (3, 5), (2, 5), (2, 3), (2, 3, 4), (3, 2, 5), (2, 2, 3, 5), (2, 3, 5, 5), (0, 2, 3, 5), (2, 3, 5, 8),
-                (2, 3, 5, 9), (-1, 2, 3, 5), (2, 3, 5, 400), (1,)):
+                (2, 3, 5, 9), (-1, 2, 3, 5), (-2, 2, 3, 5), (-7, 2, 3, 5), (2, 3, 5, 400), (1,)):
             self.assertIs(error_of(lower, graph, kept), KeptError, kept)
+
+    def test_negative_nodes(self):
+        graph = graph_of([X, ("neg", (0,), ()), ("neg", (1,), ())])
+        for kept in ((-1, 2), (-2, 2), (-1, 1, 2), (-1,)):
+            self.assertIs(error_of(lower, graph, kept), KeptError)
 
     def test_each_reducing_kind_and_outputs(self):
         for node in (("sum", (0,), ("k",)), ("peak", (0,), ("k",)), ("dot", (0, 0), ("k",)), ("fold", (0,), ("i", "k", 1, 4))):
@@ -226,11 +237,7 @@ class Errors(unittest.TestCase):
 
     def test_levels_of_the_other_kinds(self):
         """How many levels each kind stands above its args: one less than 10 of neg can stand below it."""
-        above = {
-            "sum": (1, ("k",)), "dot": (2, ("k",)), "peak": (1, ("k",)), "fold": (1, ("i", "k", 1, 4)),
-            "pad": (2, ("k", 1, 1)), "join": (1, ("k",)), "window": (0, ("k", "w", 2, 1)), "cut": (0, ("k", 0, 1)),
-            "order": (0, ("ki",)), "rename": (0, ("k", "r")), "spread": (0, ("r", 2)), "add": (1, ())}
-        for kind, (levels, info) in above.items():
+        for kind, (levels, info) in ABOVE.items():
             for many, expected in ((9 - levels, None), (10 - levels, TooLarge)):
                 nodes = [X] + [("neg", (at,), ()) for at in range(many)]
                 args = (many, many) if kind in ("dot", "join", "add") else (many,)
@@ -266,6 +273,33 @@ class Errors(unittest.TestCase):
         nodes = self.windows(3) + parts[-1:] + parts[:-1]
         self.assertIs(error_of(lower, graph_of(nodes, 7, 16), (7, 16)), RangeError)
         self.assertIs(error_of(lower, graph_of(nodes, 7, 16), (4, 7, 16)), TooLarge)
+
+    def test_levels_before_ranges(self):
+        """The levels are asked for the whole result before its numbers are."""
+        first = self.windows(3)
+        for kind, (levels, info) in ABOVE.items():
+            for many, expected in ((9 - levels, RangeError), (10 - levels, TooLarge)):
+                nodes = first + [X] + [("neg", (8 + at,), ()) for at in range(many)]
+                last = len(nodes) - 1
+                args = (last, last) if kind in ("dot", "join", "add") else (last,)
+                graph = graph_of(nodes + [(kind, args, info)], 7, last + 1)
+                self.assertIs(error_of(lower, graph, (7, last + 1)), expected, (kind, many))
+        for many, expected in ((8, RangeError), (9, TooLarge)):
+            nodes = first + [X, S] + [("neg", (9 + at,), ()) for at in range(many)]
+            graph = graph_of(nodes + [("gather", (8, len(nodes) - 1), ("i",))], 7, len(nodes))
+            self.assertIs(error_of(lower, graph, (7, len(nodes))), expected)
+        for size, expected in (("i2k1", RangeError), ("i2k2", TooLarge)):
+            nodes = first + [tensor(size)] + [("neg", (8 + at,), ()) for at in range(9)]
+            graph = graph_of(nodes + [("peak", (17,), ("k",))], 7, 18)
+            self.assertIs(error_of(lower, graph, (7, 18)), expected)
+        for kind in ("join", "dot"):
+            for turned in (False, True):
+                nodes = first + [X] + [("neg", (8 + at,), ()) for at in range(8)]
+                args = (16, 8) if turned else (8, 16)
+                graph = graph_of(nodes + [(kind, args, ("k",))], 7, 17)
+                self.assertIs(error_of(lower, graph, (7, 17)), TooLarge if kind == "dot" else RangeError)
+                graph = graph_of(nodes + [("neg", (16,), ()), (kind, tuple(17 if a == 16 else a for a in args), ("k",))], 7, 18)
+                self.assertIs(error_of(lower, graph, (7, 18)), TooLarge)
 
     def test_examples(self):
         nodes = (("input", (), ((("k", 3),), -9, 9)), ("neg", (0,), ()), ("sum", (1,), ("k",)))

@@ -78,14 +78,14 @@ class Choose(unittest.TestCase):
         for places in product(*[range(used - size) for size in sizes]):
             self.assertIs(error_of(check_places, lives, sizes, places), PlaceError)
 
-    def test_an_order_that_matters(self):
-        """Taken as they come, these five buffers need more words than the best places."""
-        lives = ((0, 1), (1, 2), (2, 3), (0, 0), (3, 3))
-        sizes = (3, 2, 3, 2, 2)
-        self.assertEqual(check_places(lives, sizes, choose_places(lives, sizes)), 5)
-        lives = ((0, 0), (0, 1), (1, 3), (3, 4), (2, 2))
-        sizes = (4, 1, 4, 1, 1)
-        self.assertEqual(check_places(lives, sizes, choose_places(lives, sizes)), 5)
+    def test_orders_that_matter(self):
+        """Neither taken as they come nor the largest first do these buffers find the best places."""
+        for lives, sizes, best in (
+                (((0, 0), (2, 2), (0, 1), (1, 3)), (3, 3, 2, 2), 5),
+                (((3, 6), (1, 3), (0, 1), (4, 5)), (1, 2, 3, 3), 5),
+                (((4, 6), (3, 6), (0, 3), (3, 6), (1, 3)), (3, 2, 2, 3, 2), 9),
+                (((0, 3), (2, 5), (3, 6), (4, 7), (1, 3)), (2, 2, 3, 3, 2), 9)):
+            self.assertEqual(check_places(lives, sizes, choose_places(lives, sizes)), best)
 
     def test_many_buffers(self):
         for seed in range(60):

@@ -42,6 +42,16 @@ class Results(unittest.TestCase):
         self.assertEqual(run(loop(0, 0, 1, 3, when(var(0, 1, -1), put(1, var(0), num(9)))))[1], (None, 9, 9))
         self.assertEqual(run(copy(2, ZERO, 0, form(1), 2), copy(1, form(1), 2, ZERO, 2))[1:], ((None, 6, 7), (6, 7)))
 
+    def test_forms_of_many_terms(self):
+        """Each number of terms, up to that of eight loops."""
+        factors = (1, -2, 3, 5, -7, 11, 13, -17)
+        for many in range(9):
+            where = form(4, *[(v, factors[v]) for v in range(many)])
+            body = put(1, ZERO, ("index", where))
+            for v in range(many):
+                body = loop(v, v, 2, 2, body)
+            self.assertEqual(run(body)[1][0], 4 + sum(factors[v] * (v + 2) for v in range(many)))
+
     def test_pick_limits_its_index(self):
         for n, word in ((-9, 5), (0, 5), (1, 6), (2, 7), (99, 7)):
             self.assertEqual(run(put(1, ZERO, pick(0, ZERO, 1, 3, num(n))))[1][0], word)
