@@ -206,6 +206,14 @@ class Generate(unittest.TestCase):
         inner = pick(2, ZERO, 1, 8, pick(0, form(7), -1, 8, load(0)))
         self.alone(copy(2, ZERO, 0, ZERO, 8), put(1, ZERO, pick(0, ZERO, 1, 8, inner)), put(1, form(1), apply("sub", inner, inner)))
 
+    def test_picks_as_operands(self):
+        """What is worked out for a pick does not touch what is held for the operands before it."""
+        where = form(1, (0, 1), (1, 2))
+        for buffer in (0, 2):
+            one = pick(buffer, where, 1, 2, load(0, where))
+            self.alone(copy(2, ZERO, 0, ZERO, 8), loop(0, 0, 1, 2, loop(1, 0, 1, 2, put(1, form(0, (0, 1), (1, 2)), apply(
+                "where", load(0), apply("sub", load(0, form(1)), one), apply("add", one, apply("mul", num(3), one)))))))
+
     def test_picks_with_large_strides(self):
         buffers = (("in", 4096), ("main", 2), ("near", 1))
         index = load(0)
@@ -231,6 +239,22 @@ class Generate(unittest.TestCase):
         for level in range(4):
             tree = apply("where", tree, tree, guard(form(level - 2), tree, num(level)))
         self.alone(put(1, ZERO, tree))
+
+    def test_bases_beyond_all_offsets(self):
+        """At the end of main memory a base alone can lead beyond what an instruction can add to a slot."""
+        first, second = form(4096, (0, -4096), (1, 1)), form(1, (1, 1))
+        self.alone(loop(0, 1, 1, 1, loop(
+            1, 0, 1, 3, put(1, first, load(0, first)), put(1, form(4096, (0, -4092)), pick(0, first, 2, 3, load(0, second))), put(
+                1, form(4096, (0, -4091)), pick(0, form(4096, (0, -4096)), 1, 8, apply("neg", load(0, second)))),
+            copy(2, var(1), 0, form(4096, (0, -4096), (1, 2)), 2), copy(1, form(4096, (0, -4090)), 2, var(1), 1))))
+
+    def test_copies_in_deep_loops(self):
+        where = form(-5, *[(v, 2 if v == 6 else 1) for v in range(1, 8)])
+        other = form(-6, *[(v, 3 if v == 5 else 1) for v in range(8)])
+        body = (copy(2, where, 0, other, 2), copy(1, other, 2, where, 2), put(1, form(-7, *[(v, 1) for v in range(8)]), ("index", where)))
+        for v in range(7, -1, -1):
+            body = (loop(v, 1, 1, 2 if v == 0 else 1, *body),)
+        self.alone(*body)
 
     def test_forms_with_many_terms(self):
         body = put(1, ZERO, ("index", form(-3, *[(v, factor) for v, factor in enumerate((1, -1, 5, -7, 1, 2, 4096, -4096))])))

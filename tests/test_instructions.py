@@ -97,6 +97,8 @@ class Form(unittest.TestCase):
     def test_negative_counts_skip_nothing(self):
         self.assertIs(error(("skip", 0, -1)), RangeError)
         self.assertIs(error(LOOP, ("skip", 0, -5), END), RangeError)
+        self.assertIs(error(SET, LOOP, ("skip", 0, -2), END), RangeError)
+        self.assertIs(error(LOOP, SET, END, ("skip", 0, -2)), RangeError)
         self.assertIs(error(("skip", 0, 4000001)), FormError)
 
 
@@ -169,7 +171,7 @@ class Range(unittest.TestCase):
         for start, step, count, expected in (
                 (LOW, 0, 1, None), (TOP, 0, 1000, None), (LOW - 1, 0, 1, RangeError), (TOP + 1, 0, 1, RangeError),
                 (LOW, far - 1, 2, None), (LOW, far, 2, RangeError), (TOP, 1 - far, 2, None), (TOP, -far, 2, RangeError),
-                (0, far, 1, None), (0, -far, 1, None), (0, far + 1, 1, RangeError), (0, -far - 1, 1, RangeError),
+                (TOP + 1, -1, 2, RangeError), (LOW - 1, 1, 2, RangeError), (TOP + 5, -far, 2, RangeError), (0, far, 1, None), (0, -far, 1, None), (0, far + 1, 1, RangeError), (0, -far - 1, 1, RangeError),
                 (TOP - 999, 1, 1000, None), (TOP - 998, 1, 1000, RangeError), (LOW + 999, -1, 1000, None), (LOW + 998, -1, 1000, RangeError)):
             self.assertIs(error(("loop", 0, start, step, count), END), expected, (start, step, count))
 
