@@ -23,7 +23,7 @@ class Audit:
         self.frames = Frames()
         self.place = 0
 
-    def run(self, code):
+    def execute(self, code):
         """Execute code."""
         while self.place < len(code):
             instruction = code[self.place]
@@ -201,7 +201,7 @@ def audited(table, machine, code, main):
     """Return what main memory holds at the end of code that is known to be valid, or raise the audit's error."""
     check_main(table, machine, main)
     audit = Audit(table, machine, main)
-    audit.run(code)
+    audit.execute(code)
     return tuple(audit.main.words)
 
 

@@ -25,7 +25,7 @@ def check_addresses(machine, rows, constants, outputs):
         raise PlaceError("two given words have the same address")
 
 
-def check_fit(machine, domains, constants):
+def check_narrow(machine, domains, constants):
     """Raise the error of inputs and constants that do not fit the machine."""
     least, most = word_range(machine)
     spans = [(low, high) for _, low, high in domains] + [(word, word) for _, word in constants]
@@ -54,7 +54,7 @@ def certify(graph, machine, code, inputs, constants, outputs):
     rows = rows_of(inputs, [count_of(domains[at][0]) for at in sources])
     asked = rows_of(outputs, [count_of(domains[out][0]) for out in graph[1]])
     check_addresses(machine, rows, constants, asked)
-    check_fit(machine, [domains[at] for at in sources], constants)
+    check_narrow(machine, [domains[at] for at in sources], constants)
     table = Terms()
     terms = graph_terms(table, graph)
     main = first_terms(table, machine, rows, [terms[at] for at in sources], constants)

@@ -114,8 +114,8 @@ def plan_transfer(core, instruction):
         if far < 0 or far + count > len(core.main) or close < 0 or close + count > len(core.near):
             return None
         if name == "in":
-            return (None, core.issue, (q, core.main, far, core.near, close, count))
-        return (None, core.issue, (q, core.near, close, core.main, far, count))
+            return (None, core.issue_transfer, (q, core.main, far, core.near, close, count))
+        return (None, core.issue_transfer, (q, core.near, close, core.main, far, count))
     return plan
 
 
@@ -181,7 +181,7 @@ class Core:
                 self.finish()
         self.look_ahead()
 
-    def run(self):
+    def run_on(self):
         """Execute instructions until the code has ended or one traps."""
         while self.doing is not None:
             self.advance()
@@ -238,7 +238,7 @@ class Core:
             self.place, slot, n = turn
             self.slots[slot] = n
 
-    def issue(self, transfer):
+    def issue_transfer(self, transfer):
         """Put a transfer behind the others of its queue."""
         delay = self.delays[self.issued % len(self.delays)] if self.delays else 0
         self.queues[transfer[0]].append([delay] + list(transfer[1:]))

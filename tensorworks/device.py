@@ -31,7 +31,7 @@ def check_run(machine, code, main, near, delays):
 
 def main_at_end(core):
     """Run a core to the end and return its main memory."""
-    core.run()
+    core.run_on()
     if not core.has_ended():
         raise Trap("an instruction traps")
     return tuple(core.main)

@@ -83,14 +83,14 @@ class Runner:
         actions = self.body_actions(body)
         values = self.values
 
-        def turn():
+        def take_turns():
             value = start
             for _ in range(count):
                 values[variable] = value
                 for action in actions:
                     action()
                 value = value + step
-        return turn
+        return take_turns
 
     def when_action(self, statement):
         place = self.place_of(statement[1])
@@ -108,13 +108,13 @@ class Runner:
         worth = self.worth_of(statement[3])
         size = len(row)
 
-        def put():
+        def set_word():
             word = worth()
             at = place()
             if not 0 <= at < size:
                 raise RangeError("a word is outside of its buffer")
             row[at] = word
-        return put
+        return set_word
 
     def copy_action(self, statement):
         _, target, target_form, source, source_form, count = statement
