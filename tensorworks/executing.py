@@ -79,7 +79,7 @@ class Runner:
         return self.copy_action(statement)
 
     def loop_action(self, statement):
-        _, variable, start, step, count, body = statement
+        variable, start, step, count, body = statement[1:]
         actions = self.body_actions(body)
         values = self.values
 

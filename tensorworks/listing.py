@@ -27,7 +27,8 @@ def line_of(instruction):
 def write_code(machine, code):
     """Return the text of code."""
     check_code(machine, code)
-    return "".join([line_of(instruction) for instruction in code])
+    lines = {instruction: line_of(instruction) for instruction in {one: True for one in code}}
+    return "".join([lines[instruction] for instruction in code])
 
 
 def take_integer(words):
@@ -69,7 +70,10 @@ def read_lines(text):
         return ()
     if not text.endswith("\n"):
         raise TextError("the last line does not end")
-    return tuple([read_instruction(line) for line in text[:-1].split("\n")])
+    lines = text[:-1].split("\n")
+    # Long code repeats itself; each line is read once.
+    known = {line: read_instruction(line) for line in {one: True for one in lines}}
+    return tuple([known[line] for line in lines])
 
 
 def read_code(machine, text):
