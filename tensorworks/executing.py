@@ -56,7 +56,7 @@ class Runner:
 
     def __init__(self, table, buffers, given):
         self.table = table
-        self.values = {}
+        self.counters = {}
         self.rows = first_words(buffers, given)
 
     def run_body(self, body):
@@ -81,12 +81,12 @@ class Runner:
     def loop_action(self, statement):
         variable, start, step, count, body = statement[1:]
         actions = self.body_actions(body)
-        values = self.values
+        counters = self.counters
 
         def take_turns():
             value = start
             for _ in range(count):
-                values[variable] = value
+                counters[variable] = value
                 for action in actions:
                     action()
                 value = value + step
@@ -127,16 +127,16 @@ class Runner:
     def place_of(self, form):
         """Return a function that returns the value of an affine form."""
         base, terms = form
-        values = self.values
+        counters = self.counters
         if not terms:
             return lambda: base
         first, one = terms[0]
         if len(terms) == 1:
-            return lambda: base + one * values[first]
+            return lambda: base + one * counters[first]
         second, two = terms[1]
         if len(terms) == 2:
-            return lambda: base + one * values[first] + two * values[second]
-        return lambda: base + sum([factor * values[variable] for variable, factor in terms])
+            return lambda: base + one * counters[first] + two * counters[second]
+        return lambda: base + sum([factor * counters[variable] for variable, factor in terms])
 
     def worth_of(self, expr):
         """Return a function that returns the value of an expression."""

@@ -22,6 +22,11 @@ BARRED = set("mro elements open input law version_info with_traceback add_note r
 NOT_NAMES = set(
     "attrgetter breakpoint builtins compile copyright credits delattr dir eval exec exit gc getattr globals hasattr "
     "help id importlib license locals methodcaller os quit setattr super type vars sys".split())
+# What values of Python's own have: an attribute may have no such name but these, a method none but METHODS and these.
+BUILTIN = {name for kind in (str, int, list, dict, set, bytes) for name in dir(kind) if not name.startswith("__")}
+FREE_ATTRIBUTES = set("count index title find get join lower upper split strip copy add".split())
+BARRED_ATTRIBUTES = BUILTIN - FREE_ATTRIBUTES | {"args", "format", "format_map", "mro"}
+FREE_METHODS = METHODS - {"isascii"} | {"add", "discard"}
 LIBRARY = {"math": {"gcd"}, "itertools": {"permutations"}}
 STATEMENTS = (
     ast.Assign, ast.AugAssign, ast.If, ast.While, ast.For, ast.Return, ast.Break, ast.Continue, ast.Pass, ast.Raise,
@@ -139,6 +144,18 @@ class Names(unittest.TestCase):
             for node in ast.walk(tree):
                 if isinstance(node, ast.Name):
                     self.assertNotIn(node.id, NOT_NAMES, stem)
+
+    def test_attributes(self):
+        for stem, tree in TREES.items():
+            for node in ast.walk(tree):
+                if isinstance(node, ast.Attribute) and isinstance(node.ctx, ast.Store):
+                    self.assertNotIn(node.attr, BARRED_ATTRIBUTES, (stem, node.lineno))
+
+    def test_methods(self):
+        for stem, tree in TREES.items():
+            for found in [node for node in ast.walk(tree) if isinstance(node, ast.ClassDef)]:
+                for function in functions_of(found):
+                    self.assertNotIn(function.name, BUILTIN - FREE_METHODS, (stem, function.lineno))
 
     def test_no_name_twice(self):
         for stem, tree in TREES.items():
