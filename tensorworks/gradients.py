@@ -198,21 +198,33 @@ def put_totals(draft, nodes, weights):
     return totals
 
 
+def copied(nodes):
+    """Return a draft that begins with nodes."""
+    draft = Draft()
+    for kind, args, info in nodes:
+        draft.put(kind, args, info)
+    return draft
+
+
+def put_answers(draft, nodes, weights):
+    """Put the gradient behind the nodes and the weights, and return its node for each input."""
+    totals = put_totals(draft, nodes, weights)
+    answers = []
+    for place in input_places(nodes):
+        total = totals[place]
+        answers.append(put_zeros(draft, draft.shapes[place]) if total is None else total)
+    return answers
+
+
 def gradient_graph(graph, low, high):
     """Return the graph of the gradient; the weights are from low to high."""
     domains = check_graph(graph)
     if low > high:
         raise RangeError("low is greater than high")
     nodes, outs = graph
-    draft = Draft()
-    for kind, args, info in nodes:
-        draft.put(kind, args, info)
+    draft = copied(nodes)
     weights = [(out, draft.put("input", (), (domains[out][0], low, high))) for out in outs]
-    totals = put_totals(draft, nodes, weights)
-    answers = []
-    for place in input_places(nodes):
-        total = totals[place]
-        answers.append(put_zeros(draft, domains[place][0]) if total is None else total)
+    answers = put_answers(draft, nodes, weights)
     result = (tuple(draft.nodes), tuple(answers))
     check_graph(result)
     return result

@@ -37,6 +37,20 @@ def check_feeds(nodes, domains, feeds):
                 raise RangeError("an element is not in the interval of its input")
 
 
+def input_counts(nodes):
+    """Return the counts of the inputs, in order."""
+    return [count_of(nodes[place][2][0]) for place in input_places(nodes)]
+
+
+def check_tensors(counts, tensors):
+    """Raise the error of tensors that do not have these counts."""
+    if len(tensors) != len(counts):
+        raise FeedError("not as many tensors as needed")
+    for count, tensor in zip(counts, tensors):
+        if len(tensor) != count:
+            raise FeedError("wrong number of elements")
+
+
 def evaluate_all(graph, feeds):
     """Return the values of all nodes."""
     domains = check_graph(graph)

@@ -36,6 +36,26 @@ FUNCTIONS = {
     "generating": ("generate(machine, program, layout, spare)",),
     "building": ("build(graph, schedule, machine)",),
     "certifying": ("certify(graph, machine, code, inputs, constants, outputs)",),
+    "scheduling": ("default_schedule(graph)", "tuned_schedule(graph, machine)"),
+    "scales": ("multiplier(a)", "code_of(pair, bits, x)", "meaning_of(pair, code)", "choose_table(graph, bits)",
+               "check_table(graph, table, bits)"),
+    "quantizing": ("quantize_graph(graph, table, bits)", "encode_feeds(graph, table, bits, feeds)",
+                   "decode_outputs(graph, table, bits, values)"),
+    "bounds": ("bound_of(graph, table, bits)",),
+    "updating": ("step_graph(graph, parameters, rate, low, high)",),
+    "journal": ("check_number(text)", "journal_line(steps, weights)", "read_line(line, sizes)"),
+    "trainer": ("resume(trainer, text)",),
+    "lines": ("line_terms(graph, feeds, direction)", "value_at(terms, t)"),
+    "creases": ("right_slopes(graph, feeds, direction)", "left_slopes(graph, feeds, direction)",
+                "creases(graph, feeds, direction)", "partials(graph, feeds)", "is_gradient(graph, feeds, weights, told)"),
+    "devices": ("check_devices(devices)", "check_pieces(graph, pieces)"),
+    "pieces": ("programs_of(graph, pieces, many, assignment)", "words_sent(graph, pieces, many, assignment)",
+               "peaks_of(graph, pieces, many, assignment)"),
+    "going": ("is_right(graph, devices, programs)", "run_programs(graph, devices, programs, feeds, order)"),
+    "splitting": ("fits(graph, pieces, devices, assignment)", "split(graph, pieces, devices)"),
+    "plantext": ("write_devices(devices)", "read_devices(text)", "write_programs(programs)", "read_programs(text)"),
+    "sessions": ("reached_from(graph, inputs)", "replay_changes(session, text)"),
+    "steps": ("steps_graph(graph, parameters, rate, low, high, count)", "steps_feeds(graph, parameters, weights, batches)"),
     "images": ("load_image(image, feeds, filler)", "unload_image(image, main)", "run_image(image, feeds, filler, delays)"),
 }
 METHODS = (
@@ -46,6 +66,16 @@ DEVICE = (
     "__init__(self, machine, code, main, near, delays)", "step(self)", "slot(self, k)", "main_word(self, k)",
     "near_word(self, k)", "pending(self, q)",
 )
+TRAINER = (
+    "__init__(self, graph, parameters, *, rate, low, high, schedule, machine, weights)", "step(self, batch, filler, delays)",
+)
+SESSION = ("__init__(self, graph, feeds)", "change(self, changes)", "undo(self)", "redo(self)")
+COURSE = TRAINER + ("mark(self, name)", "back(self, name)", "erase(self, name)")
+PROPERTIES = {
+    ("device", "Device"): ("at", "stopped"), ("trainer", "Trainer"): ("weights", "steps", "journal"),
+    ("sessions", "Session"): ("tensors", "answers", "evaluated", "journal"),
+    ("courses", "Course"): ("weights", "steps", "journal", "losses", "marks"),
+}
 IMAGE = ("graph", "program", "machine", "code", "inputs", "constants", "outputs", "words")
 CONSTANTS = {
     "shapes": {"RANK_LIMIT": 4, "SIZE_LIMIT": 16, "COUNT_LIMIT": 256},
@@ -53,6 +83,10 @@ CONSTANTS = {
     "terms": {"VALUE_LIMIT": 20000},
     "changes": {"CHANGES": ("tile", "swap", "unroll", "reverse", "split", "fuse", "stage")},
     "generating": {"SPARE": 20},
+    "lines": {"DEGREE_LIMIT": 24},
+    "creases": {"PARTIAL_LIMIT": 64, "PARTIAL_WORK": 50000},
+    "devices": {"DEVICE_LIMIT": 3, "PIECE_LIMIT": 7, "ROOM_LIMIT": 65536},
+    "steps": {"STEP_LIMIT": 20},
 }
 
 
@@ -79,8 +113,16 @@ class Interface(unittest.TestCase):
     def test_device(self):
         module = import_module("tensorworks.device")
         self.check_class(module.Device, "tensorworks.device", DEVICE)
-        for name in ("at", "stopped"):
-            self.assertIsInstance(vars(module.Device)[name], property)
+
+    def test_trainer_session_and_course(self):
+        for stem, name, heads in (("trainer", "Trainer", TRAINER), ("sessions", "Session", SESSION), ("courses", "Course", COURSE)):
+            home = "tensorworks." + stem
+            self.check_class(getattr(import_module(home), name), home, heads)
+
+    def test_properties(self):
+        for (stem, home), names in PROPERTIES.items():
+            for name in names:
+                self.assertIsInstance(vars(getattr(import_module("tensorworks." + stem), home))[name], property)
 
     def test_image(self):
         module = import_module("tensorworks.building")

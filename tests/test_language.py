@@ -12,7 +12,10 @@ TREES = {path.stem: ast.parse(path.read_text(encoding="utf-8")) for path in FILE
 CALLED = set(
     "len range enumerate zip min max sum abs sorted reversed int str bool list tuple dict set isinstance ord repr "
     "any all divmod".split())
-KEYWORDS = {"sorted": {"key", "reverse"}, "min": {"key", "default"}, "max": {"key", "default"}}
+KEYWORDS = {
+    "sorted": {"key", "reverse"}, "min": {"key", "default"}, "max": {"key", "default"},
+    "Trainer": {"rate", "low", "high", "schedule", "machine", "weights"},
+}
 NAMED = CALLED | set("ValueError None True False __name__ property".split())
 METHODS = set(
     "append clear copy count endswith extend find get index insert isalnum isalpha isdigit islower isspace isupper "
@@ -157,6 +160,21 @@ class Names(unittest.TestCase):
                 for function in functions_of(found):
                     self.assertNotIn(function.name, BUILTIN - FREE_METHODS, (stem, function.lineno))
 
+    def test_methods_and_attributes_differ(self):
+        methods = {}
+        stored = set()
+        for tree in TREES.values():
+            for node in ast.walk(tree):
+                if isinstance(node, ast.Attribute) and isinstance(node.ctx, ast.Store):
+                    stored.add(node.attr)
+                if isinstance(node, ast.ClassDef):
+                    for function in [part for part in node.body if isinstance(part, ast.FunctionDef)]:
+                        methods.setdefault(function.name, set()).add(len(function.args.args))
+        self.assertFalse(stored & set(methods))
+        # The interface gives the device and the trainer a step of their own.
+        several = {name for name, many in methods.items() if len(many) > 1}
+        self.assertEqual(several, {"__init__", "step"})
+
     def test_no_name_twice(self):
         for stem, tree in TREES.items():
             names = []
@@ -228,7 +246,7 @@ class Code(unittest.TestCase):
         for stem, tree in TREES.items():
             for node in ast.walk(tree):
                 if isinstance(node, ast.ExceptHandler):
-                    self.assertIn(node.type.id, ("TensorError", "RuleError", "AuditError"), (stem, node.lineno))
+                    self.assertIn(node.type.id, ("TensorError", "RuleError", "AuditError", "ProgramError"), (stem, node.lineno))
 
     def test_module_level(self):
         for stem, tree in TREES.items():
