@@ -46,10 +46,9 @@ def users_of(nodes):
 def reads_of(node, domains, shape):
     """Return how often an element of an arg of a node is evaluated at most, all in all."""
     kind, args, info = node
-    if kind in ("sum", "fold"):
+    if kind in ("sum", "peak", "fold"):
         return count_of(domains[args[0]][0])
-    if kind in ("dot", "peak"):
-        # The first element of a peak is evaluated where it is set, and not again.
+    if kind == "dot":
         return count_of(shape) * size_of(domains[args[0]][0], info[0])
     return count_of(shape)
 

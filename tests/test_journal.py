@@ -66,7 +66,7 @@ class Reading(unittest.TestCase):
     def test_ends(self):
         line = checked("step 0 ; 5 -2")
         for wrong in (
-                "", " ", "check", "step 0 ; 5 -2", "step 0 ; 5 -2 check", line + " ", line + "0", line + " 0", line + "\n", "\n" + line,
+                "", " ", "check", "step", "step check", "step 0", "step 0 check", "step 0 ; 5 -2", "step 0 ; 5 -2 check", line + " ", line + "0", line + " 0", line + "\n", "\n" + line,
                 line.replace("check", "Check"), line.replace(" check ", "  check "), line.replace("check ", "check  "),
                 line.replace("4602", "04602"), line.replace("4602", "+4602"), line.replace("4602", "4603"),
                 line.replace("4602", str(4602 + 65521)), line.replace("4602", "-4602"), line.replace(" check 4602", ""),

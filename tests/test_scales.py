@@ -182,6 +182,10 @@ class Tables(unittest.TestCase):
                 ((top, top - 1), None), ((top - 1, top), TableError), ((top + 1, top), TableError), ((top, top + 1), TableError),
                 ((4 * top + 1, 4 * top), TableError)):
             self.assertIs(error_of(check_table, ONE, ((scale, 0),), 3), expected, scale)
+        # Of these only the scale or the zero is wrong: the codes would reach as far as they must.
+        self.assertIs(error_of(check_table, graph_of([scalar(0, 0)]), (((0, 1), 0),), 3), TableError)
+        self.assertIs(error_of(check_table, graph_of([scalar(-4, -2)]), (((1, 1), 4),), 3), TableError)
+        self.assertIs(error_of(check_table, graph_of([scalar(2, 4)]), (((1, 1), -5),), 3), TableError)
         self.assertIsNone(check_table(graph_of([scalar(0, 0)]), (((1, top), 0),), 3))
         self.assertIs(error_of(check_table, graph_of([scalar(0, 0)]), (((1, top + 1), 0),), 3), TableError)
 

@@ -75,11 +75,23 @@ class Tuned(unittest.TestCase):
         """What a user reads several times is kept, as if it had several users."""
         spread = [scalar(-4, 4), ("mul", (0, 0), ()), ("spread", (1,), ("k", 9))]
         self.assertEqual(tuned_schedule(graph_of(spread), SMALL)[1], (1, 2))
-        wide = [tensor("k3"), tensor("j4"), ("neg", (0,), ()), ("dot", (2, 1), ("k",))]
-        wide[1] = tensor("k3j4")
+        wide = [tensor("k3"), tensor("k3j3"), ("neg", (0,), ()), ("dot", (2, 1), ("k",))]
         self.assertEqual(tuned_schedule(graph_of(wide), SMALL)[1], (2, 3))
+        self.assertEqual(tuned_schedule(graph_of(wide[:1] + wide[2:3] + [("dot", (1, 0), ("k",))]), SMALL)[1], (2,))
+        fold = [tensor("k2i2"), ("neg", (0,), ()), ("fold", (1,), ("k", "i", 1, 9))]
+        self.assertEqual(tuned_schedule(graph_of(fold), SMALL)[1], (2,))
         window = [tensor("k8"), ("neg", (0,), ()), ("window", (1,), ("k", "w", 3, 1)), ("sum", (2,), ("w",))]
         self.assertEqual(tuned_schedule(graph_of(window), SMALL)[1], (1, 3))
+
+    def test_keeping_all_may_be_better(self):
+        """If the small node 2 is not kept the large node 1 lives until the end, with two others of its size."""
+        nodes = [
+            tensor("k8", -2, 2), ("mul", (0, 0), ()), ("cut", (1,), ("k", 0, 1)), ("sum", (1,), ("k",)), ("spread", (3,), ("k", 8)),
+            ("mul", (4, 4), ()), ("mul", (5, 5), ()), ("sum", (6,), ("k",)), ("sub", (2, 7), ())]
+        graph = graph_of(nodes)
+        schedule = tuned_schedule(graph, SMALL)
+        self.assertIn(2, schedule[1])
+        self.assertLess(self.check(graph).words, 8 + 3 * 8)
 
     def test_peak(self):
         """The first element of a peak stands in two expressions, but each element is evaluated once."""

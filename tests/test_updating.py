@@ -89,6 +89,8 @@ class Errors(unittest.TestCase):
     def test_parameters(self):
         for parameters in ((), (2, 1), (1, 1), (-1,), (4,), (0, 4), (1, 2, 3, 4), (-1, 0)):
             self.check(RangeError, parameters=parameters)
+        for parameters in ((-1,), (0, 0), (1,), ()):
+            self.check(RangeError, SQUARE, parameters, low=-5, high=5)
         self.check(None, parameters=(1,))
         self.check(None, parameters=(0, 1, 2, 3), low=-5, high=5)
         self.check(None, parameters=(0, 3), low=-5, high=5)
@@ -119,4 +121,6 @@ class Errors(unittest.TestCase):
             ("add", (8, 9), ()), ("add", (12, 10), ()), ("add", (13, 11), ())])
         check_graph(far)
         self.check(TooWide, far, (1,), low=0, high=0)
-        self.check(RangeError, far, (1,), rate=0)
+        for rate in (0, 31):
+            self.check(RangeError, far, (1,), rate=rate, low=0, high=0)
+        self.check(RangeError, far, (1,), low=1, high=0)
