@@ -1,6 +1,7 @@
 """Schedules for graphs: the plain one, and one that uses fewer words of main memory."""
 
 from tensorworks.building import sizes_of
+from tensorworks.errors import TensorError
 from tensorworks.graphs import check_graph
 from tensorworks.lives import lives
 from tensorworks.lowering import SOURCES, lower, must_keep, value_levels
@@ -86,5 +87,9 @@ def tuned_schedule(graph, machine):
     domains = check_graph(graph)
     check_machine(machine)
     most, plain = compact(graph, computed_nodes(graph))
-    words, schedule = compact(graph, needed_nodes(graph, domains))
+    try:
+        words, schedule = compact(graph, needed_nodes(graph, domains))
+    except TensorError:
+        # Where expressions would not keep to the limits of loop programs, all nodes are kept.
+        return plain
     return schedule if words <= most else plain

@@ -8,7 +8,7 @@ from tensorworks.changes import CHANGES, apply_change
 from tensorworks.errors import ChangeError, FormError, RangeError, TooLarge
 from tensorworks.lowering import lower
 from tensorworks.running import run_program
-from tests.helpers import error_of, graph_of, random_graph, tensor
+from tests.helpers import error_of, random_graph
 from tests.programs import (
     ZERO, apply, copy, form, given_for, guard, load, loop, num, pick, put, random_program, var, when)
 

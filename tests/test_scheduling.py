@@ -1,6 +1,7 @@
 """Point 907: the default schedule and the tuned one."""
 
 import unittest
+from unittest import mock
 
 from tensorworks.building import build
 from tensorworks.errors import FormError, KindError, MachineError, NoRoom, TensorError, TooWide
@@ -105,6 +106,26 @@ class Tuned(unittest.TestCase):
             nodes.extend((kind, (at,), info) for at in range(60))
             image = self.check(graph_of(nodes))
             self.assertLess(image.words, 60)
+
+    def test_moves_that_add_up(self):
+        """Strides that multiply, and cuts and pads that add up, come to the limits of affine forms, and not beyond."""
+        three = [("input", (), ((("i", 1),), -9, 9))]
+        three.extend([("window", (0,), ("i", "a", 1, 16)), ("window", (1,), ("i", "b", 1, 16)), ("window", (2,), ("i", "c", 1, 16))])
+        self.assertEqual(tuned_schedule(graph_of(three), SMALL)[1], (3,))
+        self.check(graph_of(three))
+        wide = ("input", (), ((("i", 1), ("k", 16), ("j", 16)), -9, 9))
+        self.check(graph_of([wide, ("window", (0,), ("i", "a", 1, 16)), ("pad", (1,), ("a", 0, 0)), ("cut", (2,), ("k", 3, 13))]))
+        nodes = [("input", (), ((("k", 16), ("j", 16)), -9, 9))]
+        for at in range(0, 12, 2):
+            nodes.extend([("cut", (at,), ("k", 1, 15 - at // 2)), ("cut", (at + 1,), ("j", 1, 15 - at // 2))])
+        self.check(graph_of(nodes))
+
+    def test_limits_of_loop_programs(self):
+        """Where the expressions would be too deep all nodes are kept."""
+        nodes = [tensor("k2")]
+        nodes.extend(("neg", (at,), ()) for at in range(30))
+        with mock.patch("tensorworks.scheduling.LEVELS", 99):
+            self.assertEqual(tuned_schedule(graph_of(nodes), SMALL)[1], tuple(range(1, 31)))
 
     def test_random_graphs(self):
         fewer = 0
