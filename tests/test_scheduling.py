@@ -4,6 +4,7 @@ import unittest
 from unittest import mock
 
 from tensorworks.building import build
+from tensorworks.certifying import certify
 from tensorworks.errors import FormError, KindError, MachineError, NoRoom, TensorError, TooWide
 from tensorworks.gradients import gradient_graph
 from tensorworks.images import run_image
@@ -50,6 +51,7 @@ class Tuned(unittest.TestCase):
         feeds = random_feeds(graph, 3)
         for made in (first, image):
             self.assertEqual(run_image(made, feeds, (5, -7), (2, 0, 5)), evaluate(graph, feeds))
+        self.assertTrue(certify(graph, machine, image.code, image.inputs, image.constants, image.outputs))
         return image
 
     def test_fewer_words(self):
